@@ -1,0 +1,1 @@
+"""Restworld: what rests tell of whole numbers."""
