@@ -29,3 +29,38 @@ def times_in(number, prime):
         left //= prime
         times += 1
     return times
+
+
+def without(number, prime):
+    """What is left of the number, which is not 0, divided by the prime as often as it can be."""
+    left = number
+    while left % prime == 0:
+        left //= prime
+    return left
+
+
+def raised(number, times):
+    """The number to the power of so many times."""
+    product = 1
+    factor = number
+    left = times
+    while left:
+        if left & 1:
+            product *= factor
+        left >>= 1
+        if left:
+            factor *= factor
+    return product
+
+
+def raised_by(number, times, base):
+    """The rest of the number to the power of so many times."""
+    product = 1 % base
+    factor = number % base
+    left = times
+    while left:
+        if left & 1:
+            product = product * factor % base
+        left >>= 1
+        factor = factor * factor % base
+    return product

@@ -1,7 +1,13 @@
 """The checks of arguments that several modules need."""
 
-from restworld.errors import InvalidFact, InvalidFacts, InvalidIndex, InvalidNumber, InvalidPrime, TooMany
-from restworld.limits import MOST_BASE, MOST_FACT, MOST_FACTS, MOST_LAMPS, MOST_NUMBER, MOST_PRIME
+from restworld.errors import (
+    InvalidFact, InvalidFacts, InvalidIndex, InvalidNumber, InvalidPrime, InvalidSum, TooGreat, TooMany,
+)
+from restworld.limits import (
+    MOST_BASE, MOST_DEGREE, MOST_FACT, MOST_FACTS, MOST_LAMPS, MOST_NUMBER, MOST_OFTEN, MOST_PRIME, MOST_WALKED,
+)
+
+MOST_COEFFICIENT = 10 ** 12
 
 
 def is_integer(given):
@@ -36,6 +42,17 @@ def check_low_high(low, high):
 def check_base(given):
     """Raises InvalidNumber for what is no base."""
     check_within(given, 1, MOST_BASE)
+
+
+def check_often(given):
+    """Raises InvalidNumber for what is no power of a prime that is looked at."""
+    check_within(given, 0, MOST_OFTEN)
+
+
+def check_walked(base):
+    """Raises TooGreat for a base with more rests than are walked through."""
+    if base > MOST_WALKED:
+        raise TooGreat(base)
 
 
 def check_index(given):
@@ -77,6 +94,33 @@ def check_facts(facts):
 def check_lamps(lamps):
     """Raises InvalidFacts for what are no lamps."""
     _check_each_fact(lamps, MOST_LAMPS)
+
+
+def is_sum(given):
+    """Whether it is a tuple of coefficients without a needless 0 at its end."""
+    if not isinstance(given, tuple) or not 1 <= len(given) <= MOST_DEGREE + 1:
+        return False
+    for coefficient in given:
+        if not is_coefficient(coefficient):
+            return False
+    return given[-1] != 0 or len(given) == 1
+
+
+def is_coefficient(given):
+    """Whether it is an integer, in size up to the limit of sums."""
+    return is_within(given, -MOST_COEFFICIENT, MOST_COEFFICIENT)
+
+
+def check_sum(given):
+    """Raises InvalidSum for what is no sum."""
+    if not is_sum(given):
+        raise InvalidSum(given)
+
+
+def check_sum_not_nought(given):
+    """Raises InvalidSum for what is no sum, and for the one that is nought."""
+    if not is_sum(given) or given == (0,):
+        raise InvalidSum(given)
 
 
 def check_few_facts(facts):

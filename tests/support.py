@@ -15,6 +15,20 @@ NO_FACTS = (
     (None, 2), (0, None), ("0", 1), (0, "1"), ((0, 1), 2), ([], []), (0, [1]),
 )
 
+MOST_TERM = 10 ** 12
+
+NO_SUMS = NO_TUPLES + (
+    (), (0, 0), (1, 0), (5, 3, 0), (0,) * 13, (1,) * 14, (0,) * 13 + (1,), (1,) * 13 + (0,), (True,), (1, True), (False,),
+    (None,), (1, None, 1), ("1",), ([1],), ((1,),), (b"1",), (1, [], 1), (MOST_TERM + 1,), (0, -MOST_TERM - 1),
+    (MOST_TERM + 1, 1), (1, 2, 10 ** 40),
+)
+
+NO_BASES = NO_INTEGERS + (0, -1, -7, 10 ** 12 + 1, 10 ** 30)
+
+NO_NUMBERS = NO_INTEGERS + (10 ** 40 + 1, -10 ** 40 - 1)
+
+NO_PRIMES = NO_INTEGERS + (0, 1, -2, 4, 9, 91, 961, 999, 1000, 1009, 10 ** 12 + 39)
+
 
 def same(one, other):
     """Equal, of the same class, in tuples too."""
@@ -88,3 +102,18 @@ def some_facts(seed, many, most, often):
     for _ in range(often):
         bases = [chance.randint(1, most) for _ in range(chance.randint(0, many))]
         yield tuple((chance.randrange(base), base) for base in bases)
+
+
+def value_of(terms, number):
+    """The value of the sum, told by its definition."""
+    return sum(coefficient * number ** power for power, coefficient in enumerate(terms))
+
+
+def some_sums(seed, often, degree=6, most=12):
+    """So often a sum up to this degree, coefficients up to the most in size, the same ones at each run."""
+    chance = random.Random(seed)
+    for _ in range(often):
+        terms = [chance.randint(-most, most) for _ in range(chance.randint(1, degree + 1))]
+        while len(terms) > 1 and terms[-1] == 0:
+            terms.pop()
+        yield tuple(terms)

@@ -72,6 +72,14 @@ def docstrings_of(tree):
     return [node.body[0].value for node in owners if ast.get_docstring(node) is not None]
 
 
+def is_property(node):
+    """Whether it is a property that gives an attribute and does nothing else."""
+    if not isinstance(node, ast.FunctionDef) or [getattr(one, "id", "") for one in node.decorator_list] != ["property"]:
+        return False
+    rows = [row for row in node.body if not isinstance(row, ast.Expr)]
+    return parameters_of(node) == ["self"] and len(rows) == 1 and isinstance(rows[0], ast.Return)
+
+
 class Language(unittest.TestCase):
     def each(self):
         for path in FILES:
@@ -174,8 +182,10 @@ class Language(unittest.TestCase):
     def test_statements_and_values(self):
         for path, tree in self.each():
             docstrings = docstrings_of(tree)
+            # An f-string stands only in what shows an object.
+            shown = [one for node in functions_of(tree) if getattr(node, "name", "") == "__repr__" for one in ast.walk(node)]
             for node in ast.walk(tree):
-                if isinstance(node, NODES) and node not in tree.body:
+                if isinstance(node, NODES) and node not in tree.body and node not in shown:
                     self.fail_at(path, node, f"a {node.__class__.__name__}")
                 if isinstance(node, ast.Constant) and isinstance(node.value, (float, complex, bytes)):
                     self.fail_at(path, node, "a value of another class")
@@ -189,7 +199,8 @@ class Language(unittest.TestCase):
                         if isinstance(operator, (ast.Is, ast.IsNot)):
                             self.assertIn(getattr(right, "value", 0), (None, True, False), path.name)
                 if isinstance(node, (ast.FunctionDef, ast.ClassDef)):
-                    self.assertEqual(node.decorator_list, [], path.name)
+                    if not is_property(node):
+                        self.assertEqual(node.decorator_list, [], path.name)
                     if isinstance(node, ast.FunctionDef):
                         self.assertEqual((node.args.defaults, node.returns), ([], None), path.name)
             self.assertIsNone(WORDS.search(" ".join(
@@ -229,3 +240,23 @@ class Language(unittest.TestCase):
                               and isinstance(node.ctx, ast.Store)}
                     self.assertEqual(len(methods), len(set(methods)), path.name)
                     self.assertFalse(stored & set(methods), path.name)
+
+    def test_special_methods_change_nothing(self):
+        allowed = {"__init__", "__eq__", "__repr__", "__contains__"}
+        for path, tree in self.each():
+            for node in functions_of(tree):
+                name = getattr(node, "name", "")
+                if name.startswith("__") and name != "__init__":
+                    self.assertIn(name, allowed, path.name)
+                    stored = [one for one in ast.walk(node) if isinstance(getattr(one, "ctx", None), (ast.Store, ast.Del))]
+                    if stored:
+                        self.fail_at(path, node, "a special method that stores something")
+
+    def test_names_of_properties_are_stored_nowhere(self):
+        properties, stored = set(), {}
+        for path, tree in self.each():
+            properties |= {node.name for node in functions_of(tree) if is_property(node)}
+            for node in ast.walk(tree):
+                if isinstance(node, ast.Attribute) and isinstance(node.ctx, ast.Store):
+                    stored[node.attr] = path.name
+        self.assertFalse(properties & set(stored), stored)

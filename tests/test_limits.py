@@ -33,7 +33,48 @@ LISTED = {
         "covers": "lamps", "are_exact": "lamps", "needless_lamps": "lamps", "least_covers": "lamps",
         "coverings": "bases",
     },
+    "sums": {
+        "value": "terms number", "value_by": "terms number base", "slope": "terms", "steps": "terms",
+        "sum_of_steps": "steps", "added": "one other", "multiplied": "one other", "led": "one other",
+    },
+    "functions": {
+        "same": "one other base", "first_unlike": "one other base", "least_form": "terms base", "how_many": "base",
+        "least_nothing": "base", "is_table": "values base", "form_of_table": "values base", "turns": "terms base",
+        "how_many_turn": "base", "back_form": "terms base",
+    },
+    "rings": {
+        "rings": "terms base", "ring_of": "terms base number", "tail": "terms base number",
+        "longest_tail": "terms base", "after": "terms base number times",
+    },
+    "zeros": {
+        "is_zero": "terms number base", "count_zeros": "terms base", "zeros": "terms base", "barring": "terms most",
+        "whole_zeros": "terms",
+    },
+    "endless": {
+        "count_by_power": "terms prime often", "above": "terms prime often number", "count_endless": "terms prime",
+        "endless": "terms prime often", "rule": "terms prime", "has_all_powers": "terms prime",
+        "first_power_without": "terms prime",
+    },
+    "powers": {
+        "power_rest": "number power base", "is_open": "number base", "back": "number base", "order": "number base",
+        "count_open": "base", "common_order": "base", "parts": "base", "leader": "base",
+        "tail_and_round": "number base", "exponents": "number other base", "tower_rest": "values base",
+        "count_roots": "number power base", "roots": "number power base",
+    },
+    "runs": {
+        "at": "run index", "rest_at": "run index base", "sum_rest": "run index base", "tail_and_round_of": "run base",
+        "growth": "run prime", "entry": "first second base", "common_value": "first second index other",
+        "shown_rests": "run base",
+    },
+    "circles": {
+        "circle_of": "values", "fact_circle": "fact", "both": "one other", "either": "one other",
+        "without": "one other", "rest_of": "one", "sums": "one other", "gaps_between": "one other",
+        "stretched": "one many", "shrunk": "one many", "moved": "one by", "is_endless": "one", "share": "one",
+        "next_in": "one number", "count_below": "one number", "nth": "one index", "is_within": "one other",
+        "first_apart": "one other", "made": "one", "needed": "one", "greatest_gap": "one", "count_gaps": "one",
+    },
 }
+CLASSES = {("circles", "Circle"): ("early start base rests", "early start base rests", "")}
 
 
 class Limits(unittest.TestCase):
@@ -60,3 +101,14 @@ class Listed(unittest.TestCase):
                 for parameter in parameters:
                     self.assertIs(parameter.kind, parameter.POSITIONAL_OR_KEYWORD)
                     self.assertIs(parameter.default, parameter.empty)
+
+    def test_each_class_stands_in_its_file_with_its_properties_and_methods(self):
+        for (place, name), (names, properties, methods) in CLASSES.items():
+            module = import_module(f"restworld.{place}")
+            one = getattr(module, name)
+            self.assertEqual(one.__module__, module.__name__)
+            self.assertEqual(list(inspect.signature(one).parameters), names.split())
+            for word in properties.split():
+                self.assertIsInstance(vars(one)[word], property)
+            for word in methods.split():
+                self.assertTrue(inspect.isfunction(vars(one)[word]))
