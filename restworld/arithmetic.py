@@ -31,14 +31,6 @@ def times_in(number, prime):
     return times
 
 
-def without(number, prime):
-    """What is left of the number, which is not 0, divided by the prime as often as it can be."""
-    left = number
-    while left % prime == 0:
-        left //= prime
-    return left
-
-
 def raised(number, times):
     """The number to the power of so many times."""
     product = 1

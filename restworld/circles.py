@@ -222,7 +222,6 @@ def first_apart(one, other):
 
 def made(one):
     """The circle of 0 and all sums of numbers of it."""
-    _check(one)
     making = _making(one)
     if making is None:
         return Circle((0,), 1, 1, ())
@@ -234,14 +233,12 @@ def made(one):
 
 def needed(one):
     """The numbers of it above 0 that are no sum of lesser made ones above 0, ascending."""
-    _check(one)
     making = _making(one)
     return () if making is None else tuple(making.indivisible())
 
 
 def greatest_gap(one):
     """The greatest integer from 1 on that is not made, None if there is none, or there are endlessly many."""
-    _check(one)
     making = _making(one)
     if making is None or making.common() > 1 or making.greatest_missing() < 1:
         return None
@@ -250,7 +247,6 @@ def greatest_gap(one):
 
 def count_gaps(one):
     """How many integers from 1 on are not made, None if they are endlessly many."""
-    _check(one)
     making = _making(one)
     if making is None or making.common() > 1:
         return None
@@ -295,6 +291,7 @@ def _shown(bits, start, base):
 
 def _making(one):
     """The numbers that it makes, None if it has no number above 0."""
+    _check(one)
     if next_in(one, 1) is None:
         return None
     return Making(one.early, first_of_each(one.start, one.base, one.rests), one.base)

@@ -175,8 +175,6 @@ def _tail_and_round(number, base):
 
 def _tower_rest(values, base):
     number = values[0]
-    if base == 1 or len(values) == 1:
-        return number % base
     exponent = _height(values[1:], LONGEST_TAIL)
     if exponent < LONGEST_TAIL:
         return raised_by(number, exponent, base)
@@ -186,7 +184,7 @@ def _tower_rest(values, base):
 
 
 def _height(values, most):
-    """The number that the tower makes, or the most if it is greater."""
+    """The number that the tower makes, 1 for no values, or the most if it is greater."""
     height = 1
     for number in reversed(values):
         # Anything but 1 to the power of the most is greater than it.

@@ -12,8 +12,8 @@ from restworld.walks import many_steps, next_round, pair_at, primes_around, step
 MOST_OF_RUN = 10 ** 9
 MOST_SHOWN_INDEX = 500
 MOST_RUN_PRIME = 10 ** 6
-# Pairs of integers that ever come again do so within so many steps.
-ALL_ROUNDS = 12
+# A run of integers that ever comes again does so within so many values.
+ALL_ROUNDS = 6
 
 
 def at(run, index):
@@ -187,7 +187,6 @@ def _rounds_until_growing(run, prime):
     while len(rounds) < unseen + 3 or rounds[-1] == rounds[-2]:
         many = next_round(step_of(run), (x, y), prime, len(rounds) + 1, many)
         rounds.append(many)
-    rounds.pop()
     while len(rounds) > 1 and rounds[-1] == prime * rounds[-2]:
         rounds.pop()
     return tuple(rounds)

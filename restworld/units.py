@@ -28,8 +28,9 @@ def common_length(base):
 
 def order_of(number, base):
     """The least k from 1 on for which number ** k leaves the rest of 1; the number is open."""
-    least = common_length(base)
-    for prime, often in apart(least):
+    length = common_length(base)
+    least = length
+    for prime, often in apart(length):
         for _ in range(often):
             if raised_by(number, least // prime, base) != 1 % base:
                 break

@@ -200,8 +200,29 @@ class Growths(Case):
             self.assertEqual(factor, prime)
             told = list(rounds) + [rounds[-1] * prime, rounds[-1] * prime ** 2]
             self.assertEqual(told[:2], [tail_and_round_of(run, prime ** power)[1] for power in (1, 2)])
+        # The third power of this number leaves 1 by 7 ** 5; its own powers, times 7, are the values.
+        third = pow(2, 7 ** 4, 7 ** 5)
+        self.tells(((3,) * 5, 7), growth, (third + 3, -3 * third, 1, third), 7)
+        self.tells(((1,) + (3,) * 5, 7), growth, (third + 3, -3 * third, 7, 7 * third), 7)
         self.tells(((28, 28), 13), growth, (2, 1, 0, 1), 13)
         self.tells(((30, 30), 31), growth, (2, 1, 0, 1), 31)
+
+    def test_runs_that_begin_near_to_one_that_grows_otherwise(self):
+        # The first values are almost those of the powers of 8, which come round in another way than those of 3.
+        self.tells(((1, 1, 28, 28), 13), growth, (2, 1, 0, 169), 13)
+        for run, prime, begin in (
+            ((11, -24, 1, 8 + 7 ** 5), 7, 6), ((11, -24, 3, 3 * 8 - 7 ** 6), 7, 7), ((12, -35, 1, 7 + 6 ** 7), 3, 8),
+            ((-2, 15, 5, 5 * -5 + 2 ** 11), 2, 1), ((9, -14, 2, 2 * 2 + 7 * 13 ** 4), 13, 1), ((1, 1, 3 ** 7, 3 ** 8), 3, 1),
+        ):
+            rounds, factor = growth(run, prime)
+            self.assertEqual(factor, prime)
+            self.assertGreaterEqual(len(rounds), begin)
+            told = list(rounds) + [rounds[-1] * prime ** k for k in range(1, 12)]
+            most = 1
+            while prime ** (most + 1) <= 10 ** 12:
+                most += 1
+            wanted = [tail_and_round_of(run, prime ** power)[1] for power in range(1, min(most, len(told)) + 1)]
+            self.assertEqual(told[:len(wanted)], wanted)
 
     def test_growth_at_the_prime_997(self):
         for run in (FIB, (2, -1, 0, 1), (BIG, BIG - 1, 3, 4), (996, 1, 997, 997), (0, -1, 997, 5)):
