@@ -69,7 +69,7 @@ def circle_of(values):
         if not is_integer(number) or not 0 <= number <= MOST_CIRCLE:
             raise InvalidValues(index)
     early = numbers_of(bits_of(values))
-    return _circle(early, max(early, default=-1) + 1, 1, ())
+    return told_circle(early, max(early, default=-1) + 1, 1, ())
 
 
 def fact_circle(fact):
@@ -104,7 +104,7 @@ def rest_of(one):
     _check(one)
     early = [number for number in range(one.start) if number not in one]
     lacking = [number % one.base for number in range(one.start, one.start + one.base) if number not in one]
-    return _circle(early, one.start, one.base, sorted(lacking))
+    return told_circle(early, one.start, one.base, sorted(lacking))
 
 
 def sums(one, other):
@@ -139,7 +139,7 @@ def stretched(one, many):
     _check(one)
     check_within(many, 1, MOST_STRETCH)
     early = [number * many for number in one.early]
-    return _circle(early, one.start * many, one.base * many, [rest * many for rest in one.rests])
+    return told_circle(early, one.start * many, one.base * many, [rest * many for rest in one.rests])
 
 
 def shrunk(one, many):
@@ -150,7 +150,7 @@ def shrunk(one, many):
     base = one.base // gcd(one.base, many)
     early = [number for number in range(start) if number * many in one]
     rests = [number % base for number in range(start, start + base) if number * many in one]
-    return _circle(early, start, base, sorted(rests))
+    return told_circle(early, start, base, sorted(rests))
 
 
 def moved(one, by):
@@ -159,7 +159,7 @@ def moved(one, by):
     check_within(by, -MOST_CIRCLE, MOST_CIRCLE)
     early = [number + by for number in one.early if number + by >= 0]
     rests = [(rest + by) % one.base for rest in one.rests]
-    return _circle(early, max(one.start + by, 0), one.base, sorted(rests))
+    return told_circle(early, max(one.start + by, 0), one.base, sorted(rests))
 
 
 def is_endless(one):
@@ -228,7 +228,7 @@ def made(one):
     start = max(making.greatest_missing() + 1, 0)
     if start > MOST_CIRCLE:
         raise TooMany(MOST_CIRCLE)
-    return _circle(making.made_below(start), start, making.common(), (0,))
+    return told_circle(making.made_below(start), start, making.common(), (0,))
 
 
 def needed(one):
@@ -268,7 +268,7 @@ def _met(one, other):
     return max(one.start, other.start), base
 
 
-def _circle(early, start, base, rests):
+def told_circle(early, start, base, rests):
     """The circle told so, if it is not too great; what is passed need not be its least form."""
     early, start, base, rests = least_form(early, start, base, rests)
     if start > MOST_CIRCLE or base > MOST_CIRCLE:
@@ -286,7 +286,7 @@ def _shown(bits, start, base):
     """The circle that the bits show: by the base from the start on."""
     early = numbers_of(bits & (1 << start) - 1)
     shown = numbers_of(bits >> start & (1 << base) - 1)
-    return _circle(early, start, base, sorted([(start + number) % base for number in shown]))
+    return told_circle(early, start, base, sorted([(start + number) % base for number in shown]))
 
 
 def _making(one):

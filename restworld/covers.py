@@ -2,7 +2,7 @@
 
 from restworld.checks import check_lamps, is_within
 from restworld.errors import InvalidBases, TooMany
-from restworld.lighting import first_dark, is_lit, window_of
+from restworld.lighting import first_dark, is_lit_along, window_of
 from restworld.merging import common_base, is_fitting
 from restworld.subsets import least_sets, quarrelling_pairs
 
@@ -108,14 +108,7 @@ def _check_cover_bases(bases):
 
 
 def _is_needless(lamps, index):
-    # Where this one is lit the other ones come round as lamps do, so that as many
-    # of its numbers show it as would show whether as many lamps cover.
-    others = lamps[:index] + lamps[index + 1:]
-    rest, base = lamps[index]
-    for number in range(rest, rest + base * window_of(others), base):
-        if not is_lit(others, number):
-            return False
-    return True
+    return is_lit_along(lamps[:index] + lamps[index + 1:], lamps[index])
 
 
 def _lit_places(lamp, window):

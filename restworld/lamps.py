@@ -1,12 +1,9 @@
 """Where lamps that are lit at one rest each leave numbers dark."""
 
-from math import gcd
-
 from restworld.checks import check_index, check_lamps, check_low_high, check_number, check_within
 from restworld.errors import NoNumber
-from restworld.lighting import first_dark, is_lit, weighed_facts, window_of
+from restworld.lighting import count_weighed, dark_at, first_dark, is_lit, share_weighed, weighed_facts
 from restworld.limits import MOST_LAMPS
-from restworld.merging import common_base, count_between
 from restworld.stretches import longest_stretch, stretch_of
 
 MOST_STRETCH = 10 ** 6
@@ -23,7 +20,7 @@ def count_dark(lamps, low, high):
     """How many numbers from low to high are dark."""
     check_lamps(lamps)
     check_low_high(low, high)
-    return _count(weighed_facts(lamps, 0), low, high)
+    return count_weighed(weighed_facts(lamps, 0), low, high)
 
 
 def dark_from(lamps, number):
@@ -40,20 +37,20 @@ def nth_dark(lamps, number, index):
     check_index(index)
     if first_dark(lamps, number) is None:
         raise NoNumber()
-    return _nth(lamps, number, index)
+    return dark_at(lamps, number, index)
 
 
 def dark_share(lamps):
     """Of all numbers the part that is dark, a fraction."""
     check_lamps(lamps)
-    return _share(lamps, weighed_facts(lamps, 0))
+    return share_weighed(lamps, weighed_facts(lamps, 0))
 
 
 def share_lit(lamps, many):
     """Of all numbers the part at which just so many lamps are lit, a fraction."""
     check_lamps(lamps)
     check_within(many, 0, MOST_LAMPS)
-    return _share(lamps, weighed_facts(lamps, many))
+    return share_weighed(lamps, weighed_facts(lamps, many))
 
 
 def longest_lit(lamps):
@@ -71,33 +68,3 @@ def lit_from(lamps, many):
     if first_dark(lamps, 0) is None:
         return 0
     return stretch_of(lamps, many)
-
-
-def _count(weighed, low, high):
-    return sum([weight * count_between(fact, low, high) for weight, fact in weighed])
-
-
-def _share(lamps, weighed):
-    bottom = common_base(lamps)
-    top = sum([weight * (bottom // fact[1]) for weight, fact in weighed])
-    shared = gcd(top, bottom)
-    return top // shared, bottom // shared
-
-
-def _nth(lamps, number, index):
-    """As `nth_dark`, where some number is dark."""
-    weighed = weighed_facts(lamps, 0)
-    top, bottom = _share(lamps, weighed)
-    # From the number to the guess there are at most `window` dark ones more or less than
-    # the index, as each fact is off by less than its weight; and in each window there is one.
-    window = window_of(lamps)
-    guess = number + index * bottom // top
-    low = max(number, guess - window * (window + 2))
-    high = guess + window * (window + 2)
-    while low < high:
-        middle = (low + high) // 2
-        if _count(weighed, number, middle) > index:
-            high = middle
-        else:
-            low = middle + 1
-    return low

@@ -78,16 +78,22 @@ def common_value(first, second, index, other):
 
 def shown_rests(run, base):
     """The rests that the values leave, ascending."""
+    _, rests = tail_and_rests(run, base)
+    return tuple(sorted(set(rests)))
+
+
+def tail_and_rests(run, base):
+    """A pair: the tail, and a list of the rests of the values until they come round; errors as for `shown_rests`."""
     tail, many = tail_and_round_of(run, base)
     if tail + many > MOST_LISTED:
         raise TooMany(MOST_LISTED)
     step = step_of(run)
     pair = pair_at(run, 0, base)
-    shown = {}
+    rests = []
     for _ in range(tail + many):
-        shown[pair[0]] = True
+        rests.append(pair[0])
         pair = stepped(step, pair, base)
-    return tuple(sorted(list(shown)))
+    return tail, rests
 
 
 def _check_run(run):

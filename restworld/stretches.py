@@ -7,15 +7,15 @@ the search is as long for great bases as for small ones.
 
 from math import gcd
 
-from restworld.lighting import is_lit, window_of
-from restworld.merging import is_told, merged
+from restworld.lighting import is_lit, window_of, without_contained
+from restworld.merging import merged
 
 
 def stretch_of(lamps, many):
     """An integer from which on so many are all lit, None if there is none; the lamps do not cover."""
     if many >= window_of(lamps):
         return None
-    search = Search(_without_contained(lamps))
+    search = Search(without_contained(lamps))
     return search.beginning((0, 1), tuple(range(many)), search.all_indexes())
 
 
@@ -135,15 +135,6 @@ def _is_lonely(lamps, index):
     base = lamps[index][1]
     others = lamps[:index] + lamps[index + 1:]
     return all([gcd(base, other[1]) == 1 for other in others])
-
-
-def _without_contained(lamps):
-    """The lamps less those that are lit only where another one is."""
-    kept = []
-    for lamp in sorted(lamps, key=lambda one: one[1]):
-        if not any([is_told(other, lamp) for other in kept]):
-            kept.append(lamp)
-    return kept
 
 
 def _length_around(lamps, number):

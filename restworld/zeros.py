@@ -32,8 +32,12 @@ def count_zeros(terms, base):
 
 def zeros(terms, base):
     """The rests by the base that are zeros, ascending."""
-    if count_zeros(terms, base) > MOST_LISTED:
+    many = count_zeros(terms, base)
+    if many > MOST_LISTED:
         raise TooMany(MOST_LISTED)
+    if many == 0:
+        # By one part of the base there may be more zeros than can be listed, if by another one there is none.
+        return ()
     found = [(0, 1)]
     for prime, often in apart(base):
         listed = _listed_by_power(terms, prime, often)

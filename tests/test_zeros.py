@@ -95,6 +95,18 @@ class Counts(Case):
         self.tells((1, 2, 3), zeros, of_zeros(1, 2, 3), 997)
         self.tells(3, count_zeros, of_zeros(1, 2, 3), 997 ** 4)
 
+    def test_no_zero_by_one_part_and_very_many_by_another_one(self):
+        for terms, base in (
+            ((2 ** 30, 3 * 2 ** 30), 3 * 2 ** 30), ((2 ** 38, 3 * 2 ** 36), 3 * 2 ** 38),
+            ((5 ** 10, 0, 0, 5 ** 10 * 7), 7 * 5 ** 10), ((997 ** 3, 997 ** 3 * 2), 2 * 997 ** 3),
+            ((2 ** 12 * 3 ** 8, 0, 0, 5 * 2 ** 12 * 3 ** 8), 5 * 2 ** 12 * 3 ** 8),
+        ):
+            self.tells(0, count_zeros, terms, base)
+            self.tells((), zeros, terms, base)
+        self.tells(2 ** 30, count_zeros, (2 ** 30, 3 * 2 ** 30), 2 ** 30)
+        # The primes are looked at ahead of how many zeros there are.
+        self.refuses(TooGreat(1009), zeros, (2 ** 20, 1009 * 2 ** 20), 1009 * 2 ** 20)
+
     def test_zeros_that_stay_together_for_long(self):
         for numbers in ((0, 2 ** 10), (1, 1 + 2 ** 20), (5, 5, 5 + 2 ** 6), (0, 3 ** 4, 2 * 3 ** 4)):
             terms = of_zeros(*numbers)
