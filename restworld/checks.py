@@ -1,13 +1,15 @@
 """The checks of arguments that several modules need."""
 
 from restworld.errors import (
-    InvalidFact, InvalidFacts, InvalidIndex, InvalidNumber, InvalidPrime, InvalidSum, TooGreat, TooMany,
+    InvalidAsks, InvalidFact, InvalidFacts, InvalidIndex, InvalidNumber, InvalidPrime, InvalidRun, InvalidSum, TooGreat,
+    TooMany,
 )
 from restworld.limits import (
     MOST_BASE, MOST_DEGREE, MOST_FACT, MOST_FACTS, MOST_LAMPS, MOST_NUMBER, MOST_OFTEN, MOST_PRIME, MOST_WALKED,
 )
 
 MOST_COEFFICIENT = 10 ** 12
+MOST_OF_RUN = 10 ** 9
 
 
 def is_integer(given):
@@ -61,15 +63,22 @@ def check_index(given):
         raise InvalidIndex(given)
 
 
-def check_prime(given):
-    """Raises InvalidPrime for what is no prime up to the limit."""
+def is_small_prime(given):
+    """Whether it is a prime up to the limit."""
     if not is_within(given, 2, MOST_PRIME):
-        raise InvalidPrime(given)
+        return False
     divisor = 2
     while divisor * divisor <= given:
         if given % divisor == 0:
-            raise InvalidPrime(given)
+            return False
         divisor += 1
+    return True
+
+
+def check_prime(given):
+    """Raises InvalidPrime for what is no prime up to the limit."""
+    if not is_small_prime(given):
+        raise InvalidPrime(given)
 
 
 def is_fact(given):
@@ -86,6 +95,11 @@ def check_fact(given):
         raise InvalidFact(given)
 
 
+def are_facts(given, most):
+    """Whether it is a tuple of facts, not more than the most."""
+    return isinstance(given, tuple) and _first_wrong_fact(given, most) is None
+
+
 def check_facts(facts):
     """Raises InvalidFacts for what are no facts."""
     _check_each_fact(facts, MOST_FACTS)
@@ -94,6 +108,20 @@ def check_facts(facts):
 def check_lamps(lamps):
     """Raises InvalidFacts for what are no lamps."""
     _check_each_fact(lamps, MOST_LAMPS)
+
+
+def are_asks(given):
+    """Whether it is a tuple of asks, with not too many in all, nor of those that are False."""
+    return isinstance(given, tuple) and _first_wrong_ask(given) is None
+
+
+def check_asks(asks):
+    """Raises InvalidAsks for what are no asks."""
+    if not isinstance(asks, tuple):
+        raise InvalidAsks(None)
+    index = _first_wrong_ask(asks)
+    if index is not None:
+        raise InvalidAsks(index)
 
 
 def is_sum(given):
@@ -123,6 +151,22 @@ def check_sum_not_nought(given):
         raise InvalidSum(given)
 
 
+def is_of_run(given):
+    """Whether it is an integer that may stand in a run."""
+    return is_within(given, -MOST_OF_RUN, MOST_OF_RUN)
+
+
+def is_run(given):
+    """Whether it is a tuple of four integers of a run."""
+    return isinstance(given, tuple) and len(given) == 4 and all([is_of_run(one) for one in given])
+
+
+def check_run(given):
+    """Raises InvalidRun for what is no run."""
+    if not is_run(given):
+        raise InvalidRun(given)
+
+
 def check_few_facts(facts):
     """Raises TooMany for more facts than sets of them can be walked through."""
     if len(facts) > MOST_LAMPS:
@@ -132,6 +176,30 @@ def check_few_facts(facts):
 def _check_each_fact(facts, most):
     if not isinstance(facts, tuple):
         raise InvalidFacts(None)
+    index = _first_wrong_fact(facts, most)
+    if index is not None:
+        raise InvalidFacts(index)
+
+
+def _first_wrong_fact(facts, most):
     for index, fact in enumerate(facts):
         if index >= most or not is_fact(fact):
-            raise InvalidFacts(index)
+            return index
+    return None
+
+
+def _first_wrong_ask(asks):
+    never = 0
+    for index, ask in enumerate(asks):
+        if index >= MOST_FACTS or not _is_ask(ask):
+            return index
+        if not ask[2]:
+            never += 1
+        if never > MOST_LAMPS:
+            return index
+    return None
+
+
+def _is_ask(given):
+    """Whether it is a fact with True or False behind."""
+    return isinstance(given, tuple) and len(given) == 3 and is_fact(given[:2]) and isinstance(given[2], bool)

@@ -4,7 +4,7 @@ from restworld.checks import (
     check_base, check_fact, check_facts, check_index, check_low_high, check_number, check_few_facts,
 )
 from restworld.errors import Quarrel
-from restworld.merging import common_base, count_between, is_fitting, is_told, least_from, left_by, merged
+from restworld.merging import all_merged, common_base, count_between, is_fitting, is_told, least_from, left_by
 from restworld.subsets import joined_sets, least_sets, quarrelling_pairs
 
 
@@ -82,10 +82,7 @@ def _check_no_quarrel(facts):
 def _made_by(facts):
     """The fact that all of them make; raises Quarrel if two quarrel."""
     _check_no_quarrel(facts)
-    made = (0, 1)
-    for fact in facts:
-        made = merged(made, fact)
-    return made
+    return all_merged(facts)
 
 
 def _is_needless(facts, index):

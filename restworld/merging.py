@@ -28,6 +28,15 @@ def merged(one, other):
     return rest + base * times, base * step
 
 
+def all_merged(facts):
+    """The fact that just the numbers fit that fit all of them, None if two quarrel."""
+    made = (0, 1)
+    for fact in facts:
+        if made is not None:
+            made = merged(made, fact)
+    return made
+
+
 def is_told(fact, known):
     """Whether all numbers that fit the known fact fit the fact."""
     return known[1] % fact[1] == 0 and is_fitting(known[0], fact)

@@ -5,7 +5,7 @@ from math import gcd
 from restworld.checks import check_base, check_number, check_within, is_within
 from restworld.errors import InvalidBases, InvalidRests, NoNumber, NotOpen, TooMany
 from restworld.limits import MOST_NUMBER
-from restworld.merging import count_between, least_from, merged
+from restworld.merging import all_merged, count_between, least_from
 from restworld.subsets import most_fitted
 
 MOST_ROW_BASES = 12
@@ -148,7 +148,4 @@ def _row(bases, number):
 
 
 def _number(bases, row):
-    joint = (0, 1)
-    for fact in zip(row, bases):
-        joint = merged(joint, fact)
-    return joint[0]
+    return all_merged(list(zip(row, bases)))[0]

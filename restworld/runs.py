@@ -3,13 +3,14 @@
 from math import gcd, lcm
 
 from restworld.arithmetic import raised, times_in
-from restworld.checks import check_base, check_index, check_prime, check_within, is_within
-from restworld.errors import InvalidIndex, InvalidRun, NotOpen, TooGreat, TooMany
+from restworld.checks import (
+    MOST_OF_RUN, check_base, check_index, check_prime, check_run, check_within, is_within,
+)
+from restworld.errors import InvalidIndex, NotOpen, TooGreat, TooMany
 from restworld.limits import MOST_FACT, MOST_LISTED
 from restworld.numbers import apart
 from restworld.walks import many_steps, next_round, pair_at, primes_around, step_of, stepped, sum_of_pairs
 
-MOST_OF_RUN = 10 ** 9
 MOST_SHOWN_INDEX = 500
 MOST_RUN_PRIME = 10 ** 6
 # A run of integers that ever comes again does so within so many values.
@@ -18,7 +19,7 @@ ALL_ROUNDS = 6
 
 def at(run, index):
     """The value with this index."""
-    _check_run(run)
+    check_run(run)
     _check_shown(index)
     return _first_values(run, index + 1)[index]
 
@@ -37,13 +38,13 @@ def sum_rest(run, index, base):
 
 def tail_and_round_of(run, base):
     """The pair (t, r) of the run by the base."""
-    _check_run(run)
+    check_run(run)
     return _tail_and_round(run, _apart_in_walked(base))
 
 
 def growth(run, prime):
     """The first rounds by the powers of the prime, and by what each later one is greater: the prime or 1."""
-    _check_run(run)
+    check_run(run)
     check_prime(prime)
     if run[1] % prime == 0:
         raise NotOpen(run[1])
@@ -96,14 +97,6 @@ def tail_and_rests(run, base):
     return tail, rests
 
 
-def _check_run(run):
-    if not isinstance(run, tuple) or len(run) != 4:
-        raise InvalidRun(run)
-    for given in run:
-        if not is_within(given, -MOST_OF_RUN, MOST_OF_RUN):
-            raise InvalidRun(run)
-
-
 def _check_of_run(given):
     check_within(given, -MOST_OF_RUN, MOST_OF_RUN)
 
@@ -114,7 +107,7 @@ def _check_shown(index):
 
 
 def _check_far(run, index, base):
-    _check_run(run)
+    check_run(run)
     check_index(index)
     check_within(base, 1, MOST_FACT)
 

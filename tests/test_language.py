@@ -242,15 +242,30 @@ class Language(unittest.TestCase):
                     self.assertFalse(stored & set(methods), path.name)
 
     def test_special_methods_change_nothing(self):
-        allowed = {"__init__", "__eq__", "__repr__", "__contains__"}
+        allowed = {"__init__", "__eq__", "__repr__", "__contains__", "__enter__", "__exit__"}
+        changing = {"__init__", "__enter__", "__exit__"}
         for path, tree in self.each():
             for node in functions_of(tree):
                 name = getattr(node, "name", "")
-                if name.startswith("__") and name != "__init__":
+                if name.startswith("__"):
                     self.assertIn(name, allowed, path.name)
                     stored = [one for one in ast.walk(node) if isinstance(getattr(one, "ctx", None), (ast.Store, ast.Del))]
-                    if stored:
+                    if stored and name not in changing:
                         self.fail_at(path, node, "a special method that stores something")
+
+    def test_ends_of_trials_only_assign_attributes(self):
+        rows = (ast.If, ast.Assign, ast.Attribute, ast.Name, ast.Compare, ast.IsNot, ast.Constant, ast.Load, ast.Store)
+        for path, tree in self.each():
+            for node in functions_of(tree):
+                if getattr(node, "name", "") == "__exit__":
+                    self.assertEqual(parameters_of(node), ["self", "kind", "value", "trace"], path.name)
+                    for one in [inner for row in node.body for inner in ast.walk(row)]:
+                        self.assertIsInstance(one, rows, path.name)
+                        if isinstance(one, ast.Compare):
+                            self.assertEqual(ast.unparse(one), "kind is not None", path.name)
+                        if isinstance(one, ast.Name):
+                            self.assertIn(one.id, ("self", "kind"), path.name)
+                            self.assertIsInstance(one.ctx, ast.Load, path.name)
 
     def test_names_of_properties_are_stored_nowhere(self):
         properties, stored = set(), {}
