@@ -57,7 +57,7 @@ def is_table(values, base):
 
 def form_of_table(values, base):
     """The least form of the sums that leave these rests at 0, 1 and so on, None if there are none."""
-    _check_table(values, base)
+    check_table(values, base, False)
     return form_of_rests(values, base)
 
 
@@ -100,14 +100,15 @@ def _check_counted(base):
         raise TooGreat(base)
 
 
-def _check_table(values, base):
+def check_table(values, base, with_gaps):
+    """Raises an error for what is no table of rests by the base; with gaps None may stand for any rest."""
     check_base(base)
     if base > MOST_TABLE:
         raise TooGreat(base)
     if not isinstance(values, tuple) or len(values) != base:
         raise InvalidRests(None)
     for index, rest in enumerate(values):
-        if not is_within(rest, 0, base - 1):
+        if not is_within(rest, 0, base - 1) and not (with_gaps and rest is None):
             raise InvalidRests(index)
 
 

@@ -6,9 +6,8 @@ their places, those that are False are lamps: left are the dark places.
 
 from math import gcd
 
-from restworld.arithmetic import inverse
 from restworld.lighting import count_weighed, dark_at, first_dark, last_dark, weighed_facts, without_contained
-from restworld.merging import all_merged, count_between, least_from
+from restworld.merging import all_merged, along, count_between, least_from
 
 
 class Leaving:
@@ -20,7 +19,7 @@ class Leaving:
             # Two quarrel: a lamp that is lit at each place leaves none.
             self.fact, lamps = (0, 1), [(0, 1)]
         else:
-            self.fact, lamps = fact, [_along(fact, (rest, base)) for rest, base, truth in asks if not truth]
+            self.fact, lamps = fact, [along(fact, (rest, base)) for rest, base, truth in asks if not truth]
         self.dimmed = tuple(without_contained([lamp for lamp in lamps if lamp is not None]))
         rest, step = self.fact
         self.first_place = -((rest - low) // step)
@@ -76,14 +75,3 @@ class Leaving:
         if self.weighed is None:
             self.weighed = weighed_facts(self.dimmed, 0)
         return self.weighed
-
-
-def _along(fact, lamp):
-    """The lamp as one of the places of the fact, None if it is lit at none of them."""
-    rest, base = fact
-    shared = gcd(base, lamp[1])
-    between = lamp[0] - rest
-    if between % shared:
-        return None
-    step = lamp[1] // shared
-    return between // shared * inverse(base // shared, step) % step, step

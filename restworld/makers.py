@@ -3,9 +3,9 @@
 from math import gcd, perm
 
 from restworld.arithmetic import raised
-from restworld.checks import check_base, check_number, check_within, is_within
-from restworld.errors import InvalidPairs, InvalidRests, InvalidValues, TooGreat, TooMany
-from restworld.functions import MOST_TABLE
+from restworld.checks import check_number, check_within, is_within
+from restworld.errors import InvalidPairs, InvalidValues, TooGreat, TooMany
+from restworld.functions import check_table
 from restworld.limits import MOST_FACTS, MOST_LISTED
 from restworld.numbers import apart, least_product
 from restworld.tables import ranges_of
@@ -52,7 +52,7 @@ def next_of(values, most):
 
 def sums_through(values, base):
     """How many sums there are, of which no two are the same, that leave these rests at 0, 1 and so on, None for any."""
-    _check_table(values, base)
+    check_table(values, base, True)
     if base > MOST_BASE_THROUGH:
         raise TooGreat(base)
     many = 1
@@ -96,17 +96,6 @@ def _is_made(values, factor, more, base):
         if (factor * values[at - 1] + more) % base != values[at]:
             return False
     return True
-
-
-def _check_table(values, base):
-    check_base(base)
-    if base > MOST_TABLE:
-        raise TooGreat(base)
-    if not isinstance(values, tuple) or len(values) != base:
-        raise InvalidRests(None)
-    for index, rest in enumerate(values):
-        if rest is not None and not is_within(rest, 0, base - 1):
-            raise InvalidRests(index)
 
 
 def _count_through(values, prime, often):

@@ -16,16 +16,27 @@ def are_quarrelling(one, other):
     return (one[0] - other[0]) % gcd(one[1], other[1]) != 0
 
 
-def merged(one, other):
-    """The fact that just the numbers fit that fit both, None if both quarrel."""
-    rest, base = one
+def along(fact, other):
+    """The fact that just the places fit at which the numbers that fit the fact fit the other one, None if none do.
+
+    The number at a place is the rest and so many times the base.
+    """
+    rest, base = fact
     shared = gcd(base, other[1])
     between = other[0] - rest
     if between % shared:
         return None
     step = other[1] // shared
-    times = between // shared * inverse(base // shared, step) % step
-    return rest + base * times, base * step
+    return between // shared * inverse(base // shared, step) % step, step
+
+
+def merged(one, other):
+    """The fact that just the numbers fit that fit both, None if both quarrel."""
+    places = along(one, other)
+    if places is None:
+        return None
+    place, step = places
+    return one[0] + one[1] * place, one[1] * step
 
 
 def all_merged(facts):

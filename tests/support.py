@@ -5,6 +5,13 @@ import random
 import unittest
 from itertools import combinations
 
+# What the document's examples are about.
+THREE = ((2, 3), (3, 5), (2, 7))
+FIVE = ((0, 2), (0, 3), (1, 4), (5, 6), (7, 12))
+SQUARE, LINE, PLUS, ONES = (0, 0, 1), (0, 1), (1, 0, 1), (-1, 0, 1)
+FIB = (1, 1, 0, 1)
+ASKS = ((1, 2, True), (0, 3, False))
+
 NO_INTEGERS = (True, False, None, "1", "", b"1", [1], (1,), (), {1: 1}, {1}, object(), int, len, 1j)
 
 NO_TUPLES = (None, True, 0, 7, "", "ab", b"ab", [], [(0, 1)], {}, {(0, 1)}, object(), tuple)

@@ -22,18 +22,14 @@ from restworld.powers import count_open, leader, order, roots
 from restworld.runs import entry, tail_and_round_of
 from restworld.zeros import whole_zeros
 from tests.support import (
-    NO_BASES, NO_FACTS, NO_INTEGERS, NO_NUMBERS, NO_PRIMES, NO_SUMS, NO_TUPLES, Case, same, some_facts, some_sums,
+    ASKS, FIB, FIVE, LINE, NO_BASES, NO_FACTS, NO_INTEGERS, NO_NUMBERS, NO_PRIMES, NO_SUMS, NO_TUPLES, ONES, PLUS, SQUARE,
+    THREE, Case, same, some_facts, some_sums,
 )
 
 MOST = 10 ** 40
 BASE = 10 ** 12
 GREAT = 10 ** 30
 BIG = 10 ** 9
-THREE = ((2, 3), (3, 5), (2, 7))
-FIVE = ((0, 2), (0, 3), (1, 4), (5, 6), (7, 12))
-SQUARE, LINE, PLUS, ONES = (0, 0, 1), (0, 1), (1, 0, 1), (-1, 0, 1)
-FIB = (1, 1, 0, 1)
-ASKS = ((1, 2, True), (0, 3, False))
 PRIME = 999999999959
 
 

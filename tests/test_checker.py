@@ -4,16 +4,14 @@ import random
 from math import gcd, lcm
 
 from restworld.checker import accepts
-from tests.support import NO_FACTS, NO_INTEGERS, NO_SUMS, NO_TUPLES, Case, same, some_facts, some_sums, value_of
+from tests.support import (
+    ASKS, FIB, FIVE, LINE, NO_FACTS, NO_INTEGERS, NO_SUMS, NO_TUPLES, ONES, PLUS, SQUARE, THREE, Case, same, some_facts,
+    some_sums, value_of,
+)
 
 MOST = 10 ** 40
 BASE = 10 ** 12
 GREAT = 10 ** 30
-THREE = ((2, 3), (3, 5), (2, 7))
-FIVE = ((0, 2), (0, 3), (1, 4), (5, 6), (7, 12))
-SQUARE, LINE, PLUS, ONES = (0, 0, 1), (0, 1), (1, 0, 1), (-1, 0, 1)
-FIB = (1, 1, 0, 1)
-ASKS = ((1, 2, True), (0, 3, False))
 # Twice another prime and 1; 7 is a leader of it.
 PRIME = 999999999959
 HALF = 499999999979

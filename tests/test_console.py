@@ -14,12 +14,10 @@ from restworld.lamps import dark_from, dark_share
 from restworld.shelves import Shelf
 from restworld.sums import value
 from restworld.zeros import zeros
-from tests.support import NO_TUPLES, Case, some_facts, some_sums
+from tests.support import NO_TUPLES, THREE, Case, some_facts, some_sums
 
 MOST = 10 ** 40
 GREAT = 10 ** 30
-THREE = ((2, 3), (3, 5), (2, 7))
-FIVE = ((0, 2), (0, 3), (1, 4), (5, 6), (7, 12))
 # One command of each form, done in this order.
 COMMANDS = (
     "facts a 2,3 3,5 2,7", "facts c 0,2 0,3 1,4 5,6 7,12", "facts m" + " 0,1" * 13, "sum f 0 0 1", "sum g 0 1",

@@ -4,10 +4,9 @@ import random
 
 from restworld.errors import InvalidAsks, InvalidBases, InvalidFact, InvalidIndex, InvalidNumber, NoNumber, TooGreat
 from restworld.hidden import asks_needed, best_base, count_left, known_by, least_left, nth_left, verdict
-from tests.support import NO_BASES, NO_FACTS, NO_INTEGERS, NO_NUMBERS, NO_TUPLES, Case
+from tests.support import ASKS, NO_BASES, NO_FACTS, NO_INTEGERS, NO_NUMBERS, NO_TUPLES, Case
 
 MOST = 10 ** 40
-ASKS = ((1, 2, True), (0, 3, False))
 TOO_MANY_FALSE = ((0, 2, True),) * 3 + ((0, 2, False),) * 13
 # The fact is never told by asks that quarrel, or by a lamp that is lit everywhere.
 NOTHING = (((0, 2, True), (1, 2, True)), ((0, 1, False),), ((1, 4, True), (1, 2, False)),

@@ -11,13 +11,13 @@ from restworld.meeting import exponent_circle, facts_of, lamps_for_zeros, lit_ci
 from restworld.powers import exponents
 from restworld.runs import tail_and_round_of
 from restworld.zeros import zeros
-from tests.support import NO_BASES, NO_FACTS, NO_NUMBERS, NO_SUMS, NO_TUPLES, Case, some_facts, some_sums, value_of
+from tests.support import (
+    FIB, FIVE, NO_BASES, NO_FACTS, NO_NUMBERS, NO_SUMS, NO_TUPLES, Case, some_facts, some_sums, value_of,
+)
 
 SIZE = 20000
 MOST = 10 ** 40
-FIB = (1, 1, 0, 1)
 TWO = ((0, 2), (0, 3))
-FIVE = ((0, 2), (0, 3), (1, 4), (5, 6), (7, 12))
 EMPTY, ALL = Circle((), 0, 1, ()), Circle((), 0, 1, (0,))
 
 

@@ -7,14 +7,13 @@ from restworld.errors import (
     Broken, InUse, InvalidClaim, InvalidIndex, InvalidName, NotAThing, NothingToUndo, NotKnown, UnknownName,
 )
 from restworld.shelves import Shelf
-from tests.support import NO_FACTS, NO_INTEGERS, NO_SUMS, NO_TUPLES, Case, same, some_facts, some_sums, value_of
+from tests.support import (
+    FIVE, NO_FACTS, NO_INTEGERS, NO_SUMS, NO_TUPLES, SQUARE, THREE, Case, same, some_facts, some_sums, value_of,
+)
 
 GREAT = 10 ** 30
-FIVE = ((0, 2), (0, 3), (1, 4), (5, 6), (7, 12))
-THREE = ((2, 3), (3, 5), (2, 7))
 QUARREL = ((1, 4), (2, 3), (2, 6), (3, 8))
 MANY = ((0, 1),) * 13
-SQUARE = (0, 0, 1)
 NO_NAMES = NO_INTEGERS + (
     "", "A", "aB", "a1", "1", "a b", " a", "a ", "a_b", "abcdefghi", "a\n", "-", "{", "`", b"a", ("a",), ["a"], "a" * 4000,
 )
