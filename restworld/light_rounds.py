@@ -6,14 +6,13 @@ together where lamps are lit together. So only those of its primes are looked
 at that a small one can have.
 """
 
-from restworld.arithmetic import times_in
 from restworld.lighting import is_lit_along, without_contained
 from restworld.merging import common_base
 
 
 def light_round(lamps, most):
     """The least base by which the lights come round, None if it is greater than the most."""
-    needed = _without_needless(lamps)
+    needed = without_contained(lamps)
     primes = _small_primes(common_base(needed), most)
     base = 1
     for prime in primes:
@@ -26,29 +25,17 @@ def light_round(lamps, most):
     return base if base <= most else None
 
 
-def _without_needless(lamps):
-    """Some of the lamps, none of them needless, that light the same numbers."""
-    kept = tuple(without_contained(lamps))
-    for lamp in kept[::-1]:
-        others = tuple([other for other in kept if other != lamp])
-        if is_lit_along(others, lamp):
-            kept = others
-    return kept
-
-
 def _small_primes(number, most):
     """The primes of the number, each as often as it divides both the number and an integer up to the most."""
     found = []
     left = number
     for divisor in range(2, most + 1):
-        if left % divisor == 0:
-            often = times_in(left, divisor)
-            power = 1
-            for _ in range(often):
-                left //= divisor
-                power *= divisor
-                if power <= most:
-                    found.append(divisor)
+        power = divisor
+        while left % divisor == 0:
+            left //= divisor
+            if power <= most:
+                found.append(divisor)
+            power *= divisor
     return found
 
 

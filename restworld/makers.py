@@ -28,8 +28,6 @@ def bases_for(pairs, factor, more, most):
     for x, y in pairs:
         divided = gcd(divided, factor * x + more - y)
     least = max([y for _, y in pairs]) + 1
-    if divided == 0 and most - least >= MOST_LISTED:
-        raise TooMany(MOST_LISTED)
     found = tuple([base for base in range(least, most + 1) if divided % base == 0])
     if len(found) > MOST_LISTED:
         raise TooMany(MOST_LISTED)

@@ -2,6 +2,7 @@
 
 import random
 from itertools import product
+from math import prod
 
 from restworld.errors import InvalidNumber, InvalidPairs, InvalidRests, InvalidValues, TooGreat, TooMany
 from restworld.functions import how_many, is_table
@@ -10,6 +11,7 @@ from tests.support import NO_BASES, NO_INTEGERS, NO_NUMBERS, NO_TUPLES, Case
 
 MOST = 10 ** 40
 MOST_IN_PAIR = 10 ** 30
+PRIMES = [number for number in range(2, 200) if all(number % divisor for divisor in range(2, number))]
 NO_MOST = NO_INTEGERS + (0, -1)
 NO_PAIRS = (
     True, None, 0, "01", b"01", [0, 1], {0: 1}, object(), (), (0,), (0, 1, 2), (-1, 0), (0, -1), (True, 0), (0, False),
@@ -82,6 +84,15 @@ class BasesForPairs(Case):
         self.refuses(TooMany(5000), bases_for, ((0, 0),), 0, 0, 10 ** 6)
         self.refuses(TooMany(5000), bases_for, ((0, 100),), 0, 100, 5101)
 
+    def test_many_divisors(self):
+        factor, x = prod(PRIMES[:25]), prod(PRIMES[25:38])
+        divisors = [base for base in range(1, 10 ** 6 + 1) if factor * x % base == 0]
+        self.tells(tuple(divisors[:5000]), bases_for, ((x, 0),), factor, 0, divisors[4999])
+        # The first six are not above 7.
+        self.tells(tuple(divisors[6:5006]), bases_for, ((x, 7),), factor, 7, divisors[5005])
+        self.refuses(TooMany(5000), bases_for, ((x, 0),), factor, 0, divisors[5000])
+        self.refuses(TooMany(5000), bases_for, ((x, 0),), factor, 0, 10 ** 6)
+
     def test_forty_and_forty_one(self):
         pairs = ((5, 1), (8, 0)) * 20
         self.tells((2, 4), bases_for, pairs, 1, 0, 100)
@@ -149,6 +160,9 @@ class Makers(Case):
         # Each factor makes the row by each base: 1 + 2 + .. + 99 are 4950, and 100 more are too many.
         self.assertEqual(len(self.ask(makers, (0, 0), 99)), 4950)
         self.refuses(TooMany(5000), makers, (0, 0), 100)
+        # 23 + 24 + .. + 102 are 5000.
+        self.assertEqual(len(self.ask(makers, (22, 5), 102)), 5000)
+        self.refuses(TooMany(5000), makers, (22, 5), 103)
         self.refuses(TooMany(5000), makers, (0, 0, 0, 0), 200)
         self.tells(0, next_of, (0, 0), 100)
         self.tells(0, next_of, (0,) * 40, 200)

@@ -10,6 +10,7 @@ from restworld.errors import (
 from restworld.meeting import exponent_circle, facts_of, lamps_for_zeros, lit_circle, nought_circle, zero_circle
 from restworld.powers import exponents
 from restworld.runs import tail_and_round_of
+from restworld.sums import multiplied
 from restworld.zeros import zeros
 from tests.support import (
     FIB, FIVE, NO_BASES, NO_FACTS, NO_NUMBERS, NO_SUMS, NO_TUPLES, Case, some_facts, some_sums, value_of,
@@ -72,7 +73,8 @@ class LitCircles(Asking):
         for lamps in (((0, SIZE + 1),), ((0, 2 * SIZE),), ((0, 199), (0, 211)), ((1, 2), (0, 10 ** 30)),
                       ((0, 10 ** 30), (0, 10 ** 30 - 1)), ((3, 2 * SIZE), (4 + SIZE, 2 * SIZE)),
                       tuple((10007 * k, 10007 * 12) for k in range(11)),
-                      ((0, 7), (0, 11), (0, 13), (0, 17), (0, 19), (0, 23))):
+                      ((0, 7), (0, 11), (0, 13), (0, 17), (0, 19), (0, 23)), ((0, 20011),), ((5, 20011), (1, 4)),
+                      ((1, 2), (4, 3 * 20011), (5, 7 * 20021)), ((3, 2 ** 15),), ((0, 3 ** 10), (1, 5 ** 7)), ((0, 2 ** 99),)):
             self.refuses(TooMany(SIZE), lit_circle, lamps)
 
     def test_wrong_lamps(self):
@@ -104,6 +106,17 @@ class ZeroCircles(Asking):
         # All but one of the rests by a prime, and all of them.
         self.circle(fact_circle((0, 7)), zero_circle, (0, 7), 49)
         self.circle(ALL, zero_circle, (0, -2, 0, 0, 0, 0, 0, 2), 14)
+
+    def test_rests_that_make_lesser_bases(self):
+        # x * (x - 1) * .. * (x - 11) is divided by 1 * 2 * .. * 12 at each number.
+        terms, base = (1,), 1
+        for number in range(12):
+            terms, base = multiplied(terms, (-number, 1)), base * (number + 1)
+        self.circle(ALL, zero_circle, terms, base)
+        self.circle(Circle((), 0, 13, tuple(range(12))), zero_circle, terms, 13 * base)
+        self.circle(ALL, zero_circle, terms, 2 ** 10 * 3 ** 5 * 5 ** 2)
+        halves = tuple(rest for rest in range(2 ** 11) if value_of(terms, rest) % 2 ** 11 == 0)
+        self.circle(Circle((), 0, 2 ** 11, halves), zero_circle, terms, 2 * base)
 
     def test_at_the_bound(self):
         self.circle(fact_circle((1, SIZE)), zero_circle, (-1, 1), SIZE)
