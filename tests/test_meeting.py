@@ -117,6 +117,10 @@ class ZeroCircles(Asking):
         self.circle(ALL, zero_circle, terms, 2 ** 10 * 3 ** 5 * 5 ** 2)
         halves = tuple(rest for rest in range(2 ** 11) if value_of(terms, rest) % 2 ** 11 == 0)
         self.circle(Circle((), 0, 2 ** 11, halves), zero_circle, terms, 2 * base)
+        # By 8 all even numbers are zeros as they are, the odd ones because each two of four are.
+        terms, base = (0, 0, 0, -1, 0, 1), 97 * 101
+        found = tuple(rest for rest in range(base) if value_of(terms, rest) % base == 0)
+        self.circle(Circle((), 0, base, found), zero_circle, terms, 8 * base)
 
     def test_at_the_bound(self):
         self.circle(fact_circle((1, SIZE)), zero_circle, (-1, 1), SIZE)

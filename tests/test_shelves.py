@@ -248,6 +248,9 @@ class WordsOfClaims(Shelves):
         self.breaks(self.shelf, ("dark", "m", 0), None)
         self.breaks(self.shelf, ("dark", "a", 2), 0)
         self.breaks(self.shelf, ("dark", "a", 13), 1)
+        self.shelf.put("m", ("facts", ((0, 3),) + ((0, 2),) * 11))
+        self.makes(self.shelf, ("dark", "m", 1))
+        self.breaks(self.shelf, ("dark", "m", 4), 1)
 
     def test_same(self):
         self.makes(self.shelf, ("same", "f", "g", 2))
