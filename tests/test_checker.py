@@ -549,6 +549,9 @@ class Gaps(Checks):
             self.rejects(claim, wrong)
             self.rejects(("gap", (3, 5), 10), wrong)
             self.rejects(("gap", (3, 5), 22), wrong)
+        # Sums that do not leave the rests of their indexes, though none of them is too great.
+        self.rejects(("gap", (3, 5), 2), ((0, 0), (0, 1), (0, 1)))
+        self.rejects(("gap", (3, 5), 0), ((0, 0), (0, 0), (1, 0)))
         # One of them takes more of the greater coins than there are lesser ones for, but the sum is the same.
         self.takes(("gap", (2, 3, 6, 9), 1), ((0, 0, 0, 0), (0, 1, 0, 0)))
         self.rejects(("gap", (2, 3, 6, 9), 7), ((0, 0, 0, 0), (0, 0, 0, 1)))
@@ -572,6 +575,11 @@ class Gaps(Checks):
         self.rejects(("gap", eight + (12,), 3), paper)
         for wrong in NO_TUPLES + ((), (5, 3), (3, 3, 5), (0, 3, 5), (-3, 3, 5), (True, 3), (3, None), (3, 1001), ("3", 5)):
             self.rejects(("gap", wrong, 7), ((0, 0), (0, 2), (0, 1)))
+        self.takes(("gap", (3, 4, 5), 2), ((0, 0, 0), (0, 1, 0), (0, 0, 1)))
+        self.rejects(("gap", (3, 5, 4), 2), ((0, 0, 0), (0, 0, 1), (0, 1, 0)))
+        self.rejects(("gap", (3, 3, 5), 7), ((0, 0, 0), (0, 0, 2), (0, 0, 1)))
+        self.rejects(("gap", (3, 5, 5), 7), ((0, 0, 0), (0, 0, 2), (0, 0, 1)))
+        self.rejects(("gap", (2, 1001), 999), ((0, 0), (0, 1)))
         many = 10 ** 6
         self.rejects(("gap", (3, 5), 5 * (3 * many + 1) - 3), ((0, 0), (0, 2), (0, 3 * many + 1)))
         self.rejects(("gap", (2, 3), 1), ((0, 0), (0, many + 1)))
